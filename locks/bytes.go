@@ -1,0 +1,103 @@
+package locks
+
+import (
+	"dumbwaiter/api"
+	"dumbwaiter/number"
+	"dumbwaiter/octet"
+)
+
+const (
+	wide     = 8                // bytes of a Session, a Seq, an Epoch, a Rank
+	count    = 4                // bytes that tell how many
+	mostData = api.MaxValue + 1 // a value, and a byte that tells whether there is one
+)
+
+// Encode: a table as bytes.
+func (t *Table) Encode() []byte {
+	if t == nil {
+		return nil
+	}
+	w := &octet.Writer{}
+	w.Num(uint64(len(t.holds)), count)
+	for _, h := range t.holds {
+		Lay(w, h)
+	}
+	return w.Done()
+}
+
+// Decode: a table of its bytes. ErrForm: Encode makes them of none.
+func Decode(p []byte) (*Table, api.Errno) {
+	r := octet.Read(p)
+	t := New()
+	for range r.Count(r.Left()) { // each takes bytes: a count above those left is none, and so makes nothing long
+		h := Read(r)
+		if r.Bad() || !t.ahead(h.ID) || t.Take(h) != api.OK {
+			return nil, api.ErrForm
+		}
+	}
+	if !r.End() {
+		return nil, api.ErrForm
+	}
+	return t, api.OK
+}
+
+// ahead: do all that hold something stand ahead of a transaction?
+func (t *Table) ahead(id api.ID) bool {
+	n := len(t.holds)
+	return n == 0 || order(t.holds[n-1].ID, id) < 0
+}
+
+// Lay: what a transaction holds, as bytes.
+func Lay(w *octet.Writer, h api.Hold) {
+	w.Num(h.ID.Session, wide).Num(h.ID.Seq, wide).Num(h.Epoch, wide)
+	layNumbers(w, h.Gets)
+	w.Num(uint64(len(h.Scans)), count)
+	for _, s := range h.Scans {
+		layNumber(w, s[0])
+		layNumber(w, s[1])
+	}
+	layNumbers(w, h.Puts)
+	w.Bytes(h.Data)
+}
+
+func layNumbers(w *octet.Writer, l []float64) {
+	w.Num(uint64(len(l)), count)
+	for _, x := range l {
+		layNumber(w, x)
+	}
+}
+
+func layNumber(w *octet.Writer, x float64) { w.Num(number.Rank(x), wide) }
+
+// Read: what a transaction holds, of its bytes. At a fault nothing.
+func Read(r *octet.Reader) api.Hold {
+	h := api.Hold{ID: api.ID{Session: r.Num(wide), Seq: r.Num(wide)}, Epoch: r.Num(wide)}
+	h.Gets = readNumbers(r)
+	for range r.Count(api.MaxOps) {
+		h.Scans = append(h.Scans, [2]float64{readNumber(r), readNumber(r)})
+	}
+	h.Puts = readNumbers(r)
+	h.Data = r.Bytes(mostData)
+	if r.Bad() {
+		return api.Hold{}
+	}
+	return h
+}
+
+func readNumbers(r *octet.Reader) []float64 {
+	var l []float64
+	for range r.Count(api.MaxOps) {
+		l = append(l, readNumber(r))
+	}
+	return l
+}
+
+// readNumber: a number by its Rank. A Rank that is none is a fault, as Lay lays none: the reader is told so by asking it for what is one.
+func readNumber(r *octet.Reader) float64 {
+	rank := r.Num(wide)
+	x := number.Back(rank)
+	if number.Rank(x) != rank {
+		r.Num(-1)
+	}
+	return x
+}
