@@ -2,12 +2,12 @@ package locks
 
 import (
 	"dumbwaiter/api"
-	"dumbwaiter/number"
+	"dumbwaiter/lay"
 	"dumbwaiter/octet"
 )
 
 const (
-	wide     = 8                // bytes of a Session, a Seq, an Epoch, a Rank
+	wide     = 8                // bytes of a Session, a Seq, an Epoch
 	count    = 4                // bytes that tell how many
 	mostData = api.MaxValue + 1 // a value, and a byte that tells whether there is one
 )
@@ -53,8 +53,8 @@ func Lay(w *octet.Writer, h api.Hold) {
 	layNumbers(w, h.Gets)
 	w.Num(uint64(len(h.Scans)), count)
 	for _, s := range h.Scans {
-		layNumber(w, s[0])
-		layNumber(w, s[1])
+		lay.Number(w, s[0])
+		lay.Number(w, s[1])
 	}
 	layNumbers(w, h.Puts)
 	w.Bytes(h.Data)
@@ -63,18 +63,16 @@ func Lay(w *octet.Writer, h api.Hold) {
 func layNumbers(w *octet.Writer, l []float64) {
 	w.Num(uint64(len(l)), count)
 	for _, x := range l {
-		layNumber(w, x)
+		lay.Number(w, x)
 	}
 }
-
-func layNumber(w *octet.Writer, x float64) { w.Num(number.Rank(x), wide) }
 
 // Read: what a transaction holds, of its bytes. At a fault nothing.
 func Read(r *octet.Reader) api.Hold {
 	h := api.Hold{ID: api.ID{Session: r.Num(wide), Seq: r.Num(wide)}, Epoch: r.Num(wide)}
 	h.Gets = readNumbers(r)
 	for range r.Count(api.MaxOps) {
-		h.Scans = append(h.Scans, [2]float64{readNumber(r), readNumber(r)})
+		h.Scans = append(h.Scans, [2]float64{lay.ReadNumber(r), lay.ReadNumber(r)})
 	}
 	h.Puts = readNumbers(r)
 	h.Data = r.Bytes(mostData)
@@ -87,17 +85,7 @@ func Read(r *octet.Reader) api.Hold {
 func readNumbers(r *octet.Reader) []float64 {
 	var l []float64
 	for range r.Count(api.MaxOps) {
-		l = append(l, readNumber(r))
+		l = append(l, lay.ReadNumber(r))
 	}
 	return l
-}
-
-// readNumber: a number by its Rank. A Rank that is none is a fault, as Lay lays none: the reader is told so by asking it for what is one.
-func readNumber(r *octet.Reader) float64 {
-	rank := r.Num(wide)
-	x := number.Back(rank)
-	if number.Rank(x) != rank {
-		r.Num(-1)
-	}
-	return x
 }

@@ -7,6 +7,7 @@ import (
 	"testing"
 
 	"dumbwaiter/api"
+	"dumbwaiter/garble"
 	"dumbwaiter/mvcc"
 	"dumbwaiter/number"
 	"dumbwaiter/octet"
@@ -220,22 +221,7 @@ func TestDecodeByLot(t *testing.T) {
 	g := rand.New(rand.NewSource(111))
 	p := some()
 	for range 20000 {
-		q := bytes.Clone(p)
-		for range 1 + g.Intn(4) {
-			switch n := g.Intn(len(q)); g.Intn(4) {
-			case 0:
-				q[n] ^= 1 << g.Intn(8)
-			case 1:
-				q[n] = byte(g.Intn(4))
-			case 2:
-				q = append(q[:n:n], q[min(len(q), n+1+g.Intn(12)):]...)
-			case 3:
-				q = append(q[:n:n], append(bytes.Clone(p[g.Intn(len(p)):]), q[n:]...)...)
-			}
-			if len(q) == 0 {
-				q = []byte{0}
-			}
-		}
+		q := garble.ByLot(p, g.Intn)
 		kept := bytes.Clone(q)
 		s, e := mvcc.Decode(q)
 		if !bytes.Equal(q, kept) {

@@ -1,0 +1,52 @@
+// Package lay lays what the bytes of several layers have in common: numbers by their Ranks, rules.
+package lay
+
+import (
+	"dumbwaiter/api"
+	"dumbwaiter/number"
+	"dumbwaiter/octet"
+)
+
+const (
+	wide  = 8 // bytes of a Rank, an ID, an Authority
+	label = 1
+	quota = 4
+)
+
+// Fault: a reader has come upon what is none. It is asked for bytes below 0, as that is a fault whatever is left.
+func Fault(r *octet.Reader) { r.Num(-1) }
+
+// Number: a number, by its Rank.
+func Number(w *octet.Writer, x float64) { w.Num(number.Rank(x), wide) }
+
+// ReadNumber: and back. A fault: Number lays no such Rank.
+func ReadNumber(r *octet.Reader) float64 {
+	rank := r.Num(wide)
+	x := number.Back(rank)
+	if number.Rank(x) != rank {
+		Fault(r)
+		return 0
+	}
+	return x
+}
+
+// Rule: a rule.
+func Rule(w *octet.Writer, x api.Rule) {
+	w.Num(x.ID, wide).Num(uint64(x.From), label).Num(uint64(x.To), label)
+	Number(w, x.Lo)
+	Number(w, x.Hi)
+	w.Num(x.Authority, wide).Num(uint64(x.Quota), quota)
+}
+
+// ReadRule: and back. At a fault none.
+func ReadRule(r *octet.Reader) api.Rule {
+	x := api.Rule{
+		ID: r.Num(wide), From: int(r.Num(label)), To: int(r.Num(label)),
+		Lo: ReadNumber(r), Hi: ReadNumber(r),
+		Authority: r.Num(wide), Quota: int(r.Num(quota)),
+	}
+	if r.Bad() {
+		return api.Rule{}
+	}
+	return x
+}

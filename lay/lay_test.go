@@ -1,0 +1,85 @@
+package lay_test
+
+import (
+	"bytes"
+	"fmt"
+	"math"
+	"testing"
+
+	"dumbwaiter/api"
+	"dumbwaiter/lay"
+	"dumbwaiter/number"
+	"dumbwaiter/octet"
+)
+
+var minusNought = math.Copysign(0, -1)
+
+func edges() []float64 {
+	return []float64{math.Inf(-1), -math.MaxFloat64, -1, -math.SmallestNonzeroFloat64, minusNought, 0, math.SmallestNonzeroFloat64, 0.1, 1, math.MaxFloat64, math.Inf(1), math.NaN(), math.Float64frombits(math.MaxUint64)}
+}
+
+// P1.1: a number's bytes are its Rank's, and they are read back; of all NaNs they are the same.
+func TestNumber(t *testing.T) {
+	for _, x := range edges() {
+		w := &octet.Writer{}
+		lay.Number(w, x)
+		p := w.Done()
+		if want := (&octet.Writer{}).Num(number.Rank(x), 8).Done(); !bytes.Equal(p, want) {
+			t.Errorf("%v: %x", x, p)
+		}
+		r := octet.Read(p)
+		if got := lay.ReadNumber(r); !number.Same(got, x) || !r.End() {
+			t.Errorf("%v: read %v", x, got)
+		}
+		for n := range p {
+			if r := octet.Read(p[:n]); lay.ReadNumber(r) != 0 || !r.Bad() {
+				t.Errorf("%v: %d bytes are enough", x, n)
+			}
+		}
+	}
+}
+
+// P2.2: a Rank that is none is a fault, and nothing is read behind it.
+func TestRanksOfNone(t *testing.T) {
+	first, last := number.Rank(math.Inf(-1)), number.Rank(math.Inf(1))
+	for n, none := range map[uint64]bool{0: true, 1: true, first - 1: true, first: false, last: false, last + 1: true, math.MaxUint64 - 1: true, math.MaxUint64: false} {
+		r := octet.Read((&octet.Writer{}).Num(n, 8).Num(7, 1).Done())
+		x := lay.ReadNumber(r)
+		if r.Bad() != none || none && x != 0 || !none && number.Rank(x) != n {
+			t.Errorf("%d: %v, Bad %v", n, x, r.Bad())
+		}
+		if behind := r.Num(1); none != (behind == 0) {
+			t.Errorf("%d: behind it %d", n, behind)
+		}
+	}
+}
+
+// P13.1: a rule's bytes, one by one, and back.
+func TestRule(t *testing.T) {
+	x := api.Rule{ID: 0x0102030405060708, From: 255, To: 7, Lo: minusNought, Hi: math.NaN(), Authority: 9, Quota: 0x01020304}
+	want := "\x08\x07\x06\x05\x04\x03\x02\x01" + "\xff\x07" + "\xff\xff\xff\xff\xff\xff\xff\x7f" + "\xff\xff\xff\xff\xff\xff\xff\xff" + "\x09\x00\x00\x00\x00\x00\x00\x00" + "\x04\x03\x02\x01"
+	w := &octet.Writer{}
+	lay.Rule(w, x)
+	if got := w.Done(); string(got) != want {
+		t.Errorf("%x, want %x", got, want)
+	}
+	r := octet.Read([]byte(want + "more"))
+	if got := lay.ReadRule(r); fmt.Sprint(got) != fmt.Sprint(x) || r.Left() != 4 {
+		t.Errorf("%v, want %v", got, x)
+	}
+	for n := range want {
+		if r := octet.Read([]byte(want[:n])); lay.ReadRule(r) != (api.Rule{}) || !r.Bad() {
+			t.Errorf("%d bytes are enough", n)
+		}
+	}
+}
+
+// P1: nil writers and readers.
+func TestNil(t *testing.T) {
+	lay.Number(nil, 1)
+	lay.Rule(nil, api.Rule{ID: 1})
+	lay.Fault(nil)
+	if lay.ReadNumber(nil) != 0 || lay.ReadRule(nil) != (api.Rule{}) {
+		t.Error("a nil reader tells something")
+	}
+}
