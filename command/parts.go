@@ -12,27 +12,15 @@ func readID(r *octet.Reader) api.ID { return api.ID{Session: r.Num(wide), Seq: r
 
 func layCount(w *octet.Writer, n int) { w.Num(uint64(n), count) }
 
-func layWrites(w *octet.Writer, l []api.Write) {
-	layCount(w, len(l))
-	for _, x := range l {
-		lay.Number(w, x.At)
-		w.Flag(x.Del).Bytes(x.Val)
-	}
-}
-
 func readWrites(r *octet.Reader) []api.Write {
-	var l []api.Write
-	for range r.Count(api.MaxOps) {
-		l = append(l, api.Write{At: lay.ReadNumber(r), Del: r.Flag(), Val: r.Bytes(api.MaxValue)})
-	}
-	return l
+	return lay.ReadWrites(r, api.MaxOps, api.MaxValue)
 }
 
 func layParts(w *octet.Writer, l []api.Part) {
 	layCount(w, len(l))
 	for _, x := range l {
 		w.Num(uint64(x.Shard), shard)
-		layWrites(w, x.Writes)
+		lay.Writes(w, x.Writes)
 	}
 }
 

@@ -1,4 +1,4 @@
-// Package lay lays what the bytes of several layers have in common: numbers by their Ranks, rules.
+// Package lay lays what the bytes of several layers have in common: numbers by their Ranks, rules, writes.
 package lay
 
 import (
@@ -11,6 +11,7 @@ const (
 	wide  = 8 // bytes of a Rank, an ID, an Authority
 	label = 1
 	quota = 4
+	count = 4 // bytes that tell how many
 )
 
 // Fault: a reader has come upon what is none. It is asked for bytes below 0, as that is a fault whatever is left.
@@ -49,4 +50,39 @@ func ReadRule(r *octet.Reader) api.Rule {
 		return api.Rule{}
 	}
 	return x
+}
+
+// Write: a write.
+func Write(w *octet.Writer, x api.Write) {
+	Number(w, x.At)
+	w.Flag(x.Del).Bytes(x.Val)
+}
+
+// ReadWrite: and back, with so many bytes of Val at most. At a fault none.
+func ReadWrite(r *octet.Reader, long int) api.Write {
+	x := api.Write{At: ReadNumber(r), Del: r.Flag(), Val: r.Bytes(long)}
+	if r.Bad() {
+		return api.Write{}
+	}
+	return x
+}
+
+// Writes: how many, and they.
+func Writes(w *octet.Writer, l []api.Write) {
+	w.Num(uint64(len(l)), count)
+	for _, x := range l {
+		Write(w, x)
+	}
+}
+
+// ReadWrites: and back, so many at most, with so many bytes of each Val. At a fault none.
+func ReadWrites(r *octet.Reader, most, long int) []api.Write {
+	var l []api.Write
+	for range r.Count(most) {
+		l = append(l, ReadWrite(r, long))
+		if r.Bad() {
+			return nil
+		}
+	}
+	return l
 }

@@ -74,12 +74,84 @@ func TestRule(t *testing.T) {
 	}
 }
 
+// some: writes with something of all.
+func some() []api.Write {
+	return []api.Write{{At: minusNought, Val: []byte("hi")}, {At: math.NaN(), Del: true}, {At: 1, Del: true, Val: []byte("v")}, {}}
+}
+
+// P13.1: the bytes of writes, one by one, and back.
+func TestWrites(t *testing.T) {
+	want := "\x04\x00\x00\x00" +
+		"\xff\xff\xff\xff\xff\xff\xff\x7f" + "\x00" + "\x02\x00\x00\x00hi" +
+		"\xff\xff\xff\xff\xff\xff\xff\xff" + "\x01" + "\x00\x00\x00\x00" +
+		"\x00\x00\x00\x00\x00\x00\xf0\xbf" + "\x01" + "\x01\x00\x00\x00v" +
+		"\x00\x00\x00\x00\x00\x00\x00\x80" + "\x00" + "\x00\x00\x00\x00"
+	w := &octet.Writer{}
+	lay.Writes(w, some())
+	if got := w.Done(); string(got) != want {
+		t.Errorf("%x, want %x", got, want)
+	}
+	r := octet.Read([]byte(want + "more"))
+	if got := lay.ReadWrites(r, 4, 2); fmt.Sprint(got) != fmt.Sprint(some()) || r.Left() != 4 {
+		t.Errorf("%v, want %v", got, some())
+	}
+	for n := range want {
+		if r := octet.Read([]byte(want[:n])); lay.ReadWrites(r, 4, 2) != nil || !r.Bad() {
+			t.Errorf("%d bytes are enough", n)
+		}
+	}
+	w = &octet.Writer{}
+	lay.Writes(w, nil)
+	if r := octet.Read(w.Done()); len(lay.ReadWrites(r, 0, 0)) != 0 || !r.End() {
+		t.Error("none")
+	}
+}
+
+// P13.1: one write alone.
+func TestWrite(t *testing.T) {
+	for _, x := range some() {
+		w := &octet.Writer{}
+		lay.Write(w, x)
+		p := w.Done()
+		if r := octet.Read(p); fmt.Sprint(lay.ReadWrite(r, len(x.Val))) != fmt.Sprint(x) || !r.End() {
+			t.Errorf("%v: other bytes: %x", x, p)
+		}
+		for n := range p {
+			if r := octet.Read(p[:n]); fmt.Sprint(lay.ReadWrite(r, len(x.Val))) != fmt.Sprint(api.Write{}) || !r.Bad() {
+				t.Errorf("%v: %d bytes are enough", x, n)
+			}
+		}
+	}
+}
+
+// P13.2: more writes, or a longer Val, than may be; a Flag that is none; a count far too great.
+func TestWritesOfNone(t *testing.T) {
+	w := &octet.Writer{}
+	lay.Writes(w, some())
+	p := w.Done()
+	flag := bytes.Clone(p)
+	flag[12] = 2
+	for what, l := range map[string][]api.Write{
+		"more writes":  lay.ReadWrites(octet.Read(p), 3, 2),
+		"a longer Val": lay.ReadWrites(octet.Read(p), 4, 1),
+		"none below 0": lay.ReadWrites(octet.Read(p), -1, 2),
+		"Vals below 0": lay.ReadWrites(octet.Read(p), 4, -1),
+		"a Flag":       lay.ReadWrites(octet.Read(flag), 4, 2),
+		"far too many": lay.ReadWrites(octet.Read([]byte{255, 255, 255, 255}), math.MaxInt, 2),
+	} {
+		if l != nil {
+			t.Errorf("%s: %v", what, l)
+		}
+	}
+}
+
 // P1: nil writers and readers.
 func TestNil(t *testing.T) {
 	lay.Number(nil, 1)
 	lay.Rule(nil, api.Rule{ID: 1})
+	lay.Writes(nil, some())
 	lay.Fault(nil)
-	if lay.ReadNumber(nil) != 0 || lay.ReadRule(nil) != (api.Rule{}) {
+	if lay.ReadNumber(nil) != 0 || lay.ReadRule(nil) != (api.Rule{}) || lay.ReadWrites(nil, 9, 9) != nil || lay.ReadWrite(nil, 9).Del {
 		t.Error("a nil reader tells something")
 	}
 }
