@@ -6,10 +6,6 @@ import (
 	"dumbwaiter/octet"
 )
 
-func layID(w *octet.Writer, id api.ID) { w.Num(id.Session, wide).Num(id.Seq, wide) }
-
-func readID(r *octet.Reader) api.ID { return api.ID{Session: r.Num(wide), Seq: r.Num(wide)} }
-
 func layCount(w *octet.Writer, n int) { w.Num(uint64(n), count) }
 
 func readWrites(r *octet.Reader) []api.Write {

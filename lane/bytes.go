@@ -34,8 +34,8 @@ func (s *State) Encode() []byte {
 func (s *State) layOpen(w *octet.Writer) {
 	w.Num(uint64(len(s.open)), count)
 	for _, d := range s.open {
-		w.Num(d.ID.Session, word).Num(d.ID.Seq, word).Num(uint64(d.E), word)
-		w.Num(d.Epoch, word).Num(d.Index, word).Num(d.Shards, word)
+		lay.ID(w, d.ID)
+		w.Num(uint64(d.E), word).Num(d.Epoch, word).Num(d.Index, word).Num(d.Shards, word)
 		w.Num(uint64(len(d.Parts)), count)
 		for _, x := range d.Parts {
 			w.Num(uint64(x.Shard), word)
@@ -100,7 +100,7 @@ func (s *State) readOpen(r *octet.Reader) bool {
 
 func readDecision(r *octet.Reader) api.Decision {
 	d := api.Decision{
-		ID: api.ID{Session: r.Num(word), Seq: r.Num(word)}, E: api.Errno(r.Num(word)),
+		ID: lay.ReadID(r), E: api.Errno(r.Num(word)),
 		Epoch: r.Num(word), Index: r.Num(word), Shards: r.Num(word),
 	}
 	for range r.Count(r.Left()) {

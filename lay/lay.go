@@ -1,4 +1,4 @@
-// Package lay lays what the bytes of several layers have in common: numbers by their Ranks, rules, writes.
+// Package lay lays what the bytes of several layers have in common: IDs, numbers by their Ranks, rules, writes, entries, snapshots.
 package lay
 
 import (
@@ -8,14 +8,27 @@ import (
 )
 
 const (
-	wide  = 8 // bytes of a Rank, an ID, an Authority
+	wide  = 8 // bytes of a Rank, a Session, a Seq, an Authority, an Index, a Term, of Voters
 	label = 1
+	kind  = 1
 	quota = 4
 	count = 4 // bytes that tell how many
 )
 
 // Fault: a reader has come upon what is none. It is asked for bytes below 0, as that is a fault whatever is left.
 func Fault(r *octet.Reader) { r.Num(-1) }
+
+// ID: a transaction, by its session and its number there.
+func ID(w *octet.Writer, id api.ID) { w.Num(id.Session, wide).Num(id.Seq, wide) }
+
+// ReadID: and back. At a fault none.
+func ReadID(r *octet.Reader) api.ID {
+	id := api.ID{Session: r.Num(wide), Seq: r.Num(wide)}
+	if r.Bad() {
+		return api.ID{}
+	}
+	return id
+}
 
 // Number: a number, by its Rank.
 func Number(w *octet.Writer, x float64) { w.Num(number.Rank(x), wide) }
@@ -85,4 +98,32 @@ func ReadWrites(r *octet.Reader, most, long int) []api.Write {
 		}
 	}
 	return l
+}
+
+// Entry: an entry of a log.
+func Entry(w *octet.Writer, x api.Entry) {
+	w.Num(x.Index, wide).Num(x.Term, wide).Num(uint64(x.Kind), kind).Bytes(x.Data)
+}
+
+// ReadEntry: and back, with so many bytes of Data at most. At a fault none.
+func ReadEntry(r *octet.Reader, long int) api.Entry {
+	x := api.Entry{Index: r.Num(wide), Term: r.Num(wide), Kind: byte(r.Num(kind)), Data: r.Bytes(long)}
+	if r.Bad() {
+		return api.Entry{}
+	}
+	return x
+}
+
+// Snap: a snapshot.
+func Snap(w *octet.Writer, s api.Snap) {
+	w.Num(s.Index, wide).Num(s.Term, wide).Num(s.Voters, wide).Bytes(s.Data)
+}
+
+// ReadSnap: and back, with so many bytes of Data at most. At a fault none.
+func ReadSnap(r *octet.Reader, long int) api.Snap {
+	s := api.Snap{Index: r.Num(wide), Term: r.Num(wide), Voters: r.Num(wide), Data: r.Bytes(long)}
+	if r.Bad() {
+		return api.Snap{}
+	}
+	return s
 }

@@ -150,8 +150,80 @@ func TestNil(t *testing.T) {
 	lay.Number(nil, 1)
 	lay.Rule(nil, api.Rule{ID: 1})
 	lay.Writes(nil, some())
+	lay.ID(nil, api.ID{Seq: 1})
+	lay.Entry(nil, api.Entry{Index: 1})
+	lay.Snap(nil, api.Snap{Index: 1})
 	lay.Fault(nil)
-	if lay.ReadNumber(nil) != 0 || lay.ReadRule(nil) != (api.Rule{}) || lay.ReadWrites(nil, 9, 9) != nil || lay.ReadWrite(nil, 9).Del {
+	if lay.ReadNumber(nil) != 0 || lay.ReadRule(nil) != (api.Rule{}) || lay.ReadWrites(nil, 9, 9) != nil || lay.ReadWrite(nil, 9).Del ||
+		lay.ReadID(nil) != (api.ID{}) || lay.ReadEntry(nil, 9).Index != 0 || lay.ReadSnap(nil, 9).Index != 0 {
 		t.Error("a nil reader tells something")
+	}
+}
+
+// P13.1, P17.1: an ID's bytes, one by one, and back.
+func TestID(t *testing.T) {
+	id := api.ID{Session: 0x0102030405060708, Seq: 9}
+	want := "\x08\x07\x06\x05\x04\x03\x02\x01" + "\x09\x00\x00\x00\x00\x00\x00\x00"
+	w := &octet.Writer{}
+	lay.ID(w, id)
+	if got := w.Done(); string(got) != want {
+		t.Errorf("%x, want %x", got, want)
+	}
+	r := octet.Read([]byte(want + "more"))
+	if got := lay.ReadID(r); got != id || r.Left() != 4 {
+		t.Errorf("%v, want %v", got, id)
+	}
+	for n := range want {
+		if r := octet.Read([]byte(want[:n])); lay.ReadID(r) != (api.ID{}) || !r.Bad() {
+			t.Errorf("%d bytes are enough", n)
+		}
+	}
+}
+
+// P8.1, P17.1: an entry's bytes, one by one, and back; not with more bytes of Data than may be.
+func TestEntry(t *testing.T) {
+	x := api.Entry{Index: 0x0102030405060708, Term: 9, Kind: 255, Data: []byte("abc")}
+	want := "\x08\x07\x06\x05\x04\x03\x02\x01" + "\x09\x00\x00\x00\x00\x00\x00\x00" + "\xff" + "\x03\x00\x00\x00abc"
+	w := &octet.Writer{}
+	lay.Entry(w, x)
+	if got := w.Done(); string(got) != want {
+		t.Errorf("%x, want %x", got, want)
+	}
+	r := octet.Read([]byte(want + "more"))
+	if got := lay.ReadEntry(r, 3); fmt.Sprint(got) != fmt.Sprint(x) || r.Left() != 4 {
+		t.Errorf("%v, want %v", got, x)
+	}
+	none := fmt.Sprint(api.Entry{})
+	if r := octet.Read([]byte(want)); fmt.Sprint(lay.ReadEntry(r, 2)) != none || !r.Bad() {
+		t.Error("more Data than may be")
+	}
+	for n := range want {
+		if r := octet.Read([]byte(want[:n])); fmt.Sprint(lay.ReadEntry(r, 3)) != none || !r.Bad() {
+			t.Errorf("%d bytes are enough", n)
+		}
+	}
+}
+
+// P8.1, P17.1: a snapshot's bytes, one by one, and back; not with more bytes of Data than may be.
+func TestSnap(t *testing.T) {
+	s := api.Snap{Index: 0x0102030405060708, Term: 9, Voters: math.MaxUint64, Data: []byte("abc")}
+	want := "\x08\x07\x06\x05\x04\x03\x02\x01" + "\x09\x00\x00\x00\x00\x00\x00\x00" + "\xff\xff\xff\xff\xff\xff\xff\xff" + "\x03\x00\x00\x00abc"
+	w := &octet.Writer{}
+	lay.Snap(w, s)
+	if got := w.Done(); string(got) != want {
+		t.Errorf("%x, want %x", got, want)
+	}
+	r := octet.Read([]byte(want + "more"))
+	if got := lay.ReadSnap(r, 3); fmt.Sprint(got) != fmt.Sprint(s) || r.Left() != 4 {
+		t.Errorf("%v, want %v", got, s)
+	}
+	none := fmt.Sprint(api.Snap{})
+	if r := octet.Read([]byte(want)); fmt.Sprint(lay.ReadSnap(r, 2)) != none || !r.Bad() {
+		t.Error("more Data than may be")
+	}
+	for n := range want {
+		if r := octet.Read([]byte(want[:n])); fmt.Sprint(lay.ReadSnap(r, 3)) != none || !r.Bad() {
+			t.Errorf("%d bytes are enough", n)
+		}
 	}
 }

@@ -7,7 +7,7 @@ import (
 )
 
 const (
-	wide     = 8                // bytes of a Session, a Seq, an Epoch
+	wide     = 8                // bytes of an Epoch
 	count    = 4                // bytes that tell how many
 	mostData = api.MaxValue + 1 // a value, and a byte that tells whether there is one
 )
@@ -49,7 +49,8 @@ func (t *Table) ahead(id api.ID) bool {
 
 // Lay: what a transaction holds, as bytes.
 func Lay(w *octet.Writer, h api.Hold) {
-	w.Num(h.ID.Session, wide).Num(h.ID.Seq, wide).Num(h.Epoch, wide)
+	lay.ID(w, h.ID)
+	w.Num(h.Epoch, wide)
 	layNumbers(w, h.Gets)
 	w.Num(uint64(len(h.Scans)), count)
 	for _, s := range h.Scans {
@@ -69,7 +70,7 @@ func layNumbers(w *octet.Writer, l []float64) {
 
 // Read: what a transaction holds, of its bytes. At a fault nothing.
 func Read(r *octet.Reader) api.Hold {
-	h := api.Hold{ID: api.ID{Session: r.Num(wide), Seq: r.Num(wide)}, Epoch: r.Num(wide)}
+	h := api.Hold{ID: lay.ReadID(r), Epoch: r.Num(wide)}
 	h.Gets = readNumbers(r)
 	for range r.Count(api.MaxOps) {
 		h.Scans = append(h.Scans, [2]float64{lay.ReadNumber(r), lay.ReadNumber(r)})
