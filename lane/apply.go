@@ -6,6 +6,7 @@ import (
 	"dumbwaiter/api"
 	"dumbwaiter/command"
 	"dumbwaiter/mvcc"
+	"dumbwaiter/own"
 )
 
 // Apply: a command, at an index.
@@ -103,7 +104,7 @@ func (s *State) answer(id api.ID, x api.Reply) (api.Effect, bool) {
 func (s *State) tell(c api.Command, x api.Reply) {
 	d := api.Decision{ID: c.ID, E: x.E, Epoch: x.Epoch, Index: x.Index, Shards: c.Shards}
 	if d.E == api.OK {
-		d.Parts = ownParts(c.Parts)
+		d.Parts = own.Parts(c.Parts)
 	}
 	n, _ := s.place(d.ID) // it isn't there, as no number is answered twice
 	s.open = slices.Insert(s.open, n, d)

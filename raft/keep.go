@@ -6,6 +6,7 @@ import (
 	"slices"
 
 	"dumbwaiter/api"
+	"dumbwaiter/own"
 	"dumbwaiter/wal"
 )
 
@@ -64,7 +65,7 @@ func (r *Raft) Restore() (api.Snap, bool) {
 	if r == nil || !r.hasCome {
 		return api.Snap{}, false
 	}
-	s := copied(r.came)
+	s := own.Snap(r.came)
 	r.came, r.hasCome = api.Snap{}, false
 	return s, true
 }
@@ -86,5 +87,5 @@ func (r *Raft) Image() wal.Image {
 	if r == nil {
 		return wal.Image{}
 	}
-	return wal.Image{H: r.hard, S: copied(r.snap), L: r.log.From(r.log.Base()+1, math.MaxInt)}
+	return wal.Image{H: r.hard, S: own.Snap(r.snap), L: r.log.From(r.log.Base()+1, math.MaxInt)}
 }

@@ -6,6 +6,7 @@ import (
 
 	"dumbwaiter/api"
 	"dumbwaiter/logs"
+	"dumbwaiter/own"
 )
 
 // Propose: one more entry. ErrLeader: it doesn't lead; ErrLong: it is too long, or there is no index any more.
@@ -70,7 +71,7 @@ func (r *Raft) install(n int) {
 		return m.Kind == api.Install && m.To == n && m.Term == r.hard.Term && m.S.Index == r.snap.Index
 	}
 	if !slices.ContainsFunc(r.out, waits) {
-		r.send(api.Message{Kind: api.Install, To: n, Term: r.hard.Term, S: copied(r.snap)})
+		r.send(api.Message{Kind: api.Install, To: n, Term: r.hard.Term, S: own.Snap(r.snap)})
 	}
 }
 

@@ -1,6 +1,9 @@
 package raft
 
-import "dumbwaiter/api"
+import (
+	"dumbwaiter/api"
+	"dumbwaiter/own"
+)
 
 // Step: a message has come. ErrArg: it isn't for it, or it is none.
 func (r *Raft) Step(m api.Message) api.Errno {
@@ -110,7 +113,7 @@ func (r *Raft) takeSnap(s api.Snap) {
 	if r.log.Fit(s.Index, s.Term) {
 		return
 	}
-	r.snap = copied(s)
+	r.snap = own.Snap(s)
 	r.log.Reset(r.snap)
 	r.came, r.hasCome = r.snap, true
 	r.told.last = s.Index // it is laid whole, not by Save
